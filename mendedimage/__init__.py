@@ -1,0 +1,1 @@
+"""Program images that tell how they're mended by small programs."""
