@@ -26,8 +26,10 @@ class Ground:
     def filled_with(self, file):
         held = []
         for segment in self.laid:
+            # These zeros are what the one before has no bytes for, and the room behind it.
+            held.extend([0] * (segment.place - self.home - len(held)))
             held.extend(file[segment.source:segment.source + segment.filled])
-            held.extend([0] * (segment.size - segment.filled))
+        held.extend([0] * (self.length - len(held)))
         return held
 
 
@@ -50,9 +52,9 @@ def check_row(laid):
     demand(1 <= len(laid) <= MOST_LAID)
     end = laid[0].place
     for segment in laid:
-        demand(segment.place == end)
+        demand(segment.place >= end)
         demand(segment.size > 0)
-        end += segment.size
+        end = segment.place + segment.size
     demand(end < TOP)
     demand(end - laid[0].place <= MOST_REACH)
 

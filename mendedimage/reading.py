@@ -43,12 +43,14 @@ class Cursor:
             byte = self.byte()
             found.append(byte % 128)
             more = byte >= 128
-        demand(value_of(found, 0) < MODULUS)
         return found
 
     def sevens(self):
-        return value_of(self.digits(), 0)
+        value = value_of(self.digits(), 0)
+        demand(value < MODULUS)
+        return value
 
+    # Told modulo 2^64, so ten bytes hold none that's too much.
     def signed_sevens(self):
         digits = self.digits()
         beginning = -1 if digits[-1] >= 64 else 0

@@ -2,8 +2,9 @@
 
 import unittest
 
-from building import ALL, PAGE, FileCase, bare, code, data, file_of, sevens, text
+from building import ALL, HOME, PAGE, FileCase, bare, code, data, file_of, sevens, text
 from mendedimage.reading import Cursor
+from mendedimage.refusals import BadFile
 
 NAME = [0x40] + text("name")
 READY = [0x11, 0x51] + NAME + [0x71, 0]
@@ -118,8 +119,21 @@ class Steps(BindCase):
     def test_6_tells_what_is_to_be_added(self):
         for number in ([0], [0x3F], [0x40], [0x7F], [0xFF, 0x00], [0x80] * 9 + [0], [0x80] * 9 + [1], [0xFF] * 9 + [1]):
             self.wants([0], READY + [0x60] + number + [0x90])
-        for number in ([0x80] * 10, [0x80] * 10 + [0], [0x80] * 9 + [2], [0xFF] * 9 + [0x7F]):
+        for number in ([0x80] * 10, [0x80] * 10 + [0], [0xFF] * 10 + [0x7F], [0xFF] * 10 + [0x01]):
             self.refused(self.bound(READY + [0x60] + number + [0x90]))
+
+    def test_6_refuses_no_number_for_how_much_it_comes_to(self):
+        for last in (2, 3, 0x3F, 0x40, 0x41, 0x7E, 0x7F):
+            for byte in (0x80, 0x85, 0xFF):
+                self.wants([0], READY + [0x60] + [byte] * 9 + [last] + [0x90])
+
+    def test_numbers_without_sign_are_below_2_to_the_64(self):
+        for before in ([0x20], [0x71], [0x80], READY + [0xA0], READY + [0xC0, 1]):
+            self.taken(self.bound(before + sevens(ALL - 1)))
+            for number in (ALL, ALL + 5, 1 << 69, (1 << 70) - 1):
+                self.refused(self.bound(before + sevens(number)))
+        self.refused(self.bound(READY + [0xC0] + sevens(ALL) + [0]))
+        self.refused(self.bound(READY + [0xC0] + sevens(ALL + 1) + [0]))
 
     def test_7_tells_the_place(self):
         self.wants([24], [0x11, 0x51] + NAME + [0x71, 24, 0x90])
@@ -202,6 +216,15 @@ class Doing(BindCase):
         for rights in (2, 3, 6, 7):
             self.taken(self.bound(READY + [0x90], segments=[code(), data(rights=rights)]))
 
+    def test_a_word_is_not_in_the_room_between_two(self):
+        rows = [code(), data(size=PAGE), data(place=HOME + 3 * PAGE, size=PAGE)]
+        for place in (0, PAGE - 8, 2 * PAGE, 3 * PAGE - 8):
+            self.taken(self.bound(far(place) + [0x90], segments=rows))
+        for place in (PAGE - 7, PAGE, PAGE + 8, 2 * PAGE - 8, 2 * PAGE - 1, 3 * PAGE - 7):
+            self.refused(self.bound(far(place) + [0x90], segments=rows))
+        self.taken(self.bound(READY + [0xC0, 2] + sevens(2 * PAGE - 8), segments=rows))
+        self.refused(self.bound(READY + [0xC0, 3] + sevens(PAGE - 8), segments=rows))
+
     def test_of_no_words_the_place_may_be_anywhere(self):
         self.taken(self.bound(far(ALL - 1) + [0xC0, 0] + sevens(ALL - 1)))
 
@@ -250,6 +273,22 @@ class Signed(unittest.TestCase):
         self.assertEqual(self.value([0x80] * 8 + [0x40]), ALL - (1 << 62))
         self.assertEqual(self.value([0xFF] * 9 + [0x01]), ALL - 1)
         self.assertEqual(self.value([0xFF] * 9 + [0x00]), (1 << 63) - 1)
+
+    def test_less_2_to_the_70(self):
+        self.assertEqual(self.value([0xFF] * 9 + [0x7F]), ALL - 1)
+        self.assertEqual(self.value([0x80] * 9 + [0x7F]), 1 << 63)
+        self.assertEqual(self.value([0xC0] + [0xFF] * 8 + [0x7F]), ALL - 64)
+        self.assertEqual(self.value([0x83] + [0x80] * 8 + [0x40]), 3)
+
+    def test_modulo_2_to_the_64(self):
+        self.assertEqual(self.value([0x85] + [0x80] * 8 + [0x02]), 5)
+        self.assertEqual(self.value([0x85] + [0x80] * 8 + [0x03]), (1 << 63) + 5)
+        self.assertEqual(self.value([0xFF] * 9 + [0x3F]), ALL - 1)
+
+    def test_ten_bytes_at_most(self):
+        for row in ([0x80] * 10 + [0], [0xFF] * 10 + [0x7F], [0x80] * 10, [0xFF]):
+            with self.assertRaises(BadFile):
+                self.value(row)
 
 
 if __name__ == "__main__":

@@ -174,6 +174,16 @@ class Steps(FileCase):
         self.taken(file_of(segments=rows, mend=far(4) + [0x60] + sevens(511)))
         self.refused(file_of(segments=rows, mend=far(4) + [0x60] + sevens(512)))
 
+    def test_a_run_over_the_room_between_two(self):
+        rows = [code(), data(size=PAGE), data(place=HOME + 4 * PAGE, size=PAGE)]
+        over = sevens(3 * PAGE - 8)
+        self.mends([0, 3 * PAGE], file_of(segments=rows, mend=READY + [0x80, 2] + over), 4 * PAGE)
+        self.mends([16, 3 * PAGE + 16, 24], file_of(segments=rows, mend=far(16) + [0x80, 2] + over + [0x21, 24, 0x51]),
+                   4 * PAGE)
+        self.refused(file_of(segments=rows, mend=READY + [0x80, 2] + sevens(3 * PAGE - 9)))
+        self.refused(file_of(segments=rows, mend=READY + [0x80, 4] + sevens(PAGE - 8)))
+        self.refused(file_of(segments=rows, mend=READY + [0x60] + sevens(513)))
+
 
 class Doing(FileCase):
     ways = ([0x50], [0x51], [0x60, 0], [0x60, 1], [0x70, 0], [0x80, 0, 0], [0x80, 1, 0])

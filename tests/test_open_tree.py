@@ -2,7 +2,7 @@
 
 import unittest
 
-from building import ALL, PAGE, FileCase, bare, code, data, file_of, sevens, text
+from building import ALL, HOME, PAGE, FileCase, bare, code, data, file_of, sevens, text
 
 LENGTH = 3 * PAGE
 
@@ -89,6 +89,12 @@ class Nodes(TreeCase):
         wide = [bare(), code(), data(size=4194304 - PAGE)]
         self.taken(file_of(segments=wide, tree=forest("a", leaf=stands(4194303) + [0])))
         self.refused(file_of(segments=wide, tree=forest("a", leaf=stands(4194304) + [0])))
+
+    def test_a_place_in_the_room_between_two_segments_is_in_the_image(self):
+        rows = [code(), data(place=HOME + 3 * PAGE, size=PAGE)]
+        for place in (PAGE, 2 * PAGE, 4 * PAGE - 1):
+            self.taken(file_of(segments=rows, tree=forest("a", leaf=stands(place) + [0])))
+        self.refused(file_of(segments=rows, tree=forest("a", leaf=stands(4 * PAGE) + [0])))
 
     def test_no_byte_more_and_none_less(self):
         self.bad(forest("a", leaf=stands(1, more=1) + [0]))

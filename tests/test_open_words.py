@@ -219,10 +219,27 @@ class Segments(FileCase):
     def test_each_from_where_the_one_before_ends_on(self):
         last = data(place=HOME + 3 * PAGE)
         self.taken(file_of(segments=[code(), data(), last]))
-        for off in (-2 * PAGE, -PAGE, PAGE):
+        for off in (-2 * PAGE, -PAGE):
             self.refused(file_of(segments=[code(), data(place=HOME + PAGE + off)]))
             self.refused(file_of(segments=[code(), data(), data(place=HOME + 3 * PAGE + off)]))
         self.refused(file_of(segments=[code(), last, data()]))
+
+    def test_room_may_be_between_two(self):
+        for room in (PAGE, 2 * PAGE, 100 * PAGE):
+            self.taken(file_of(segments=[code(), data(place=HOME + PAGE + room)]))
+            self.taken(file_of(segments=[bare(), code(), data(place=HOME + PAGE + room)]))
+            self.taken(file_of(segments=[code(), data(), data(place=HOME + 3 * PAGE + room)]))
+
+    def test_room_takes_no_part_of_the_one_before(self):
+        further = data(place=HOME + 4 * PAGE)
+        self.taken(file_of(segments=[code(), further, data(place=HOME + 6 * PAGE)]))
+        for place in (0, HOME - 2 * PAGE, HOME, HOME + PAGE, HOME + 2 * PAGE, HOME + 4 * PAGE, HOME + 5 * PAGE):
+            self.refused(file_of(segments=[code(), further, data(place=place)]))
+
+    def test_room_does_not_count_as_one_that_is_laid(self):
+        rows = [code()] + [data(place=HOME + 2 * k * PAGE, size=PAGE) for k in range(1, 17)]
+        self.taken(file_of(segments=rows[:16]))
+        self.refused(file_of(segments=rows))
 
     def test_sizes_are_above_0(self):
         self.refused(file_of(segments=[code(), data(size=0)]))
@@ -235,6 +252,8 @@ class Segments(FileCase):
         self.refused(file_of(segments=[code(place=ALL - PAGE)]))
         self.taken(file_of(segments=[code(place=TOP - 3 * PAGE), data(place=TOP - 2 * PAGE, size=PAGE)]))
         self.refused(file_of(segments=[code(place=TOP - 2 * PAGE), data(place=TOP - PAGE, size=PAGE)]))
+        self.taken(file_of(segments=[code(place=TOP - 4 * PAGE), data(place=TOP - 2 * PAGE, size=PAGE)]))
+        self.refused(file_of(segments=[code(place=TOP - 4 * PAGE), data(place=TOP - PAGE, size=PAGE)]))
 
     def test_the_last_ends_at_most_4194304_behind_the_first(self):
         self.taken(file_of(segments=[code(size=4194304)]))
@@ -242,6 +261,10 @@ class Segments(FileCase):
         self.taken(file_of(segments=[code(), data(size=4194304 - PAGE)]))
         self.refused(file_of(segments=[code(), data(size=4194304)]))
         self.refused(file_of(segments=[code(), data(size=ALL - PAGE)]))
+        self.taken(file_of(segments=[code(), data(place=HOME + 4194304 - PAGE, size=PAGE)]))
+        self.refused(file_of(segments=[code(), data(place=HOME + 4194304, size=PAGE)]))
+        self.refused(file_of(segments=[code(), data(place=HOME + 4194304 - PAGE, size=2 * PAGE)]))
+        self.refused(file_of(segments=[code(), data(place=ALL - PAGE, size=PAGE)]))
 
     def test_the_first_begins_at_the_beginning_of_the_file(self):
         body = file_of()
@@ -385,6 +408,14 @@ class Words(FileCase):
             self.taken(file_of(segments=rows, mend=self.mend_at(0, far)))
         for far in (PAGE - 7, PAGE - 1, 2 * PAGE - 7, 2 * PAGE - 1):
             self.refused(file_of(segments=rows, mend=self.mend_at(0, far)))
+
+    def test_not_in_the_room_between_two_nor_over_its_edges(self):
+        rows = [code(), data(size=PAGE), data(place=HOME + 4 * PAGE, size=PAGE)]
+        for far in (0, PAGE - 8, 3 * PAGE, 4 * PAGE - 8):
+            self.mends([far], file_of(segments=rows, mend=self.mend_at(1, far)), 4 * PAGE)
+        for far in (PAGE - 7, PAGE - 1, PAGE, 2 * PAGE, 3 * PAGE - 8, 3 * PAGE - 1, 4 * PAGE - 7):
+            self.refused(file_of(segments=rows, mend=self.mend_at(1, far)))
+        self.mends([3 * PAGE + 8], file_of(segments=rows, mend=self.mend_at(2, 8)), 4 * PAGE)
 
     def test_the_right_to_be_written(self):
         for rights in (2, 3, 6, 7):

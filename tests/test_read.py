@@ -58,6 +58,47 @@ class Read(FileCase):
         self.assertEqual(found[3], found[1])
 
 
+class Room(FileCase):
+    """Segments with room between them, in which the image has zeros."""
+
+    rows = [
+        code(),
+        data(place=HOME + 3 * PAGE, size=PAGE, source=PAGE, filled=1000),
+        data(place=HOME + 4 * PAGE, size=PAGE, source=PAGE, filled=500),
+        data(place=HOME + 6 * PAGE, size=2 * PAGE, source=PAGE, filled=7),
+    ]
+    file = file_of(segments=rows, body=BODY)
+
+    def whole(self):
+        filled = 32 + 4 * 72 + 48
+        laid = self.file[:filled] + [0] * (3 * PAGE - filled)
+        laid += BODY + [0] * (PAGE - 1000) + BODY[:500] + [0] * (2 * PAGE - 500)
+        return laid + BODY[:7] + [0] * (2 * PAGE - 7)
+
+    def test_all_of_it(self):
+        self.assertEqual(ask(take(self.file), read(0, 20 * PAGE)), [[0], [8 * PAGE] + self.whole()])
+
+    def test_over_its_edges(self):
+        for edge in (PAGE, 3 * PAGE, 5 * PAGE, 6 * PAGE, 8 * PAGE):
+            for at in (edge - 10, edge - 1, edge, edge + 1):
+                part = self.whole()[at:at + 20]
+                self.assertEqual(ask(take(self.file), read(at, 20)), [[0], [len(part)] + part])
+
+    def test_behind_a_segment_that_is_full(self):
+        body = [k % 255 + 1 for k in range(PAGE)]
+        rows = [code(), data(size=PAGE, source=PAGE, filled=PAGE),
+                data(place=HOME + 3 * PAGE, size=PAGE, source=PAGE, filled=PAGE)]
+        found = ask(take(file_of(segments=rows, body=body)), read(PAGE, 4 * PAGE))
+        self.assertEqual(found, [[0], [3 * PAGE] + body + [0] * PAGE + body])
+
+    def test_laying_changes_nothing_in_it(self):
+        mend = [0x11, 0x21, 0, 0x51, 0x23, 0, 0x51]
+        file = file_of(segments=self.rows, mend=mend, body=BODY)
+        found = ask(take(file), lay(HOME + SHIFT), read(PAGE, 2 * PAGE), read(5 * PAGE, PAGE), read(6 * PAGE, 8))
+        value = int.from_bytes(bytes(BODY[:7]), "little")
+        self.assertEqual(found[2:], [[2 * PAGE] + [0] * 2 * PAGE, [PAGE] + [0] * PAGE, [8] + le(value + SHIFT, 8)])
+
+
 class Mended(FileCase):
     """Parts of words that are mended, as they're read."""
 
