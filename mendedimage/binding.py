@@ -8,9 +8,10 @@ STEPS_WITH_N = (1, 5, 7, 11)
 
 
 class Want:
-    def __init__(self, run, library, name, added):
+    def __init__(self, run, library, library_name, name, added):
         self.run_wanted = run
         self.library = library
+        self.library_name = library_name
         self.name = name
         self.added = added
 
@@ -33,7 +34,8 @@ class Binding(Walk):
         demand(1 <= self.library <= len(self.libraries))
         demand(len(self.name) > 0)
         run = self.run(count, between)
-        self.wanted.append(Want(run, self.library, self.name, self.added))
+        library_name = self.libraries[self.library - 1]
+        self.wanted.append(Want(run, self.library, library_name, self.name, self.added))
 
     def take_step(self, what, n):
         demand(n == 0 or what in STEPS_WITH_N)

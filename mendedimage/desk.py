@@ -1,7 +1,7 @@
 """The calls, and what's answered to them."""
 
 from mendedimage.making import image_of
-from mendedimage.refusals import BadBase, BadFile, NoImage
+from mendedimage.refusals import BadBase, BadFile, NoImage, NotWanted, UnknownName
 
 # How many numbers a call has, its own among them; one with a row says it itself.
 LENGTHS = {0: 1, 2: 2, 3: 3, 5: 2, 6: 3, 7: 1}
@@ -37,13 +37,24 @@ def read(desk, call):
     return [len(found)] + found
 
 
-# find, want, fill and about: of an image that's there they can't be asked yet.
-def ask_later(desk, call):
-    desk.image_there()
-    raise NotImplementedError()
+def find(desk, call):
+    return [0, desk.image_there().place_named(tuple(call[2:]))]
 
 
-CALLS = (begin, take_file, lay, read, ask_later, ask_later, ask_later, ask_later)
+def want(desk, call):
+    return desk.image_there().tell_wanted(call[1])
+
+
+def fill(desk, call):
+    desk.image_there().fill(call[1], call[2])
+    return [0]
+
+
+def about(desk, call):
+    return desk.image_there().about()
+
+
+CALLS = (begin, take_file, lay, read, find, want, fill, about)
 
 
 def answer(desk, call):
@@ -54,6 +65,10 @@ def answer(desk, call):
     except BadFile:
         return [-1]
     except BadBase:
+        return [-1]
+    except UnknownName:
+        return [-1]
+    except NotWanted:
         return [-1]
 
 

@@ -24,12 +24,11 @@ class Ground:
         return segment.place - self.home
 
     def filled_with(self, file):
-        held = []
+        held = [0] * self.length
         for segment in self.laid:
-            # These zeros are what the one before has no bytes for, and the room behind it.
-            held.extend([0] * (segment.place - self.home - len(held)))
-            held.extend(file[segment.source:segment.source + segment.filled])
-        held.extend([0] * (self.length - len(held)))
+            begin = segment.place - self.home
+            for k in range(segment.filled):
+                held[begin + k] = file[segment.source + k]
         return held
 
 

@@ -13,6 +13,14 @@ class BadBase(Exception):
     pass
 
 
+class UnknownName(Exception):
+    pass
+
+
+class NotWanted(Exception):
+    pass
+
+
 def demand(held):
     if not held:
         raise BadFile()

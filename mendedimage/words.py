@@ -15,10 +15,13 @@ class Run:
         self.stride = stride
 
     def lowest(self):
-        return min(self.place, self.place + self.stride * (self.count - 1))
+        return min(self.place, self.place_of_word(self.count - 1))
+
+    def place_of_word(self, k):
+        return self.place + self.stride * k
 
     def places(self):
-        return list(range(self.place, self.place + self.stride * self.count, self.stride))
+        return list(range(self.place, self.place_of_word(self.count), self.stride))
 
 
 def stride_of(count, between):

@@ -143,6 +143,39 @@ def file_of(**changes):
     return Plan(**changes).file()
 
 
+def stands(place, flags=None, more=0):
+    """What a node stands for, with how many bytes that has before it."""
+    said = (sevens(0) if flags is None else flags) + sevens(place) + [0] * more
+    return sevens(len(said)) + said
+
+
+def node(said, *below):
+    """A node; below it are pairs of letters and a place, which always has two bytes."""
+    made = list(said) + [len(below)]
+    for letters, place in below:
+        made += (letters if isinstance(letters, list) else text(letters)) + sevens(place, 2)
+    return made
+
+
+NONE = [0]
+LEAF = node(stands(1))
+
+
+def forest(*names, leaf=LEAF):
+    """A first node with a leaf for each name."""
+    at = 2 + sum(len(name) + 3 for name in names)
+    pairs = [(name, at + k * len(leaf)) for k, name in enumerate(names)]
+    return node(NONE, *pairs) + leaf * len(names)
+
+
+def chain(*letters, leaf=LEAF):
+    """A node below a node below a node, to a leaf."""
+    made = []
+    for each in letters:
+        made += node(NONE, (each, len(made) + 5 + len(each)))
+    return made + leaf
+
+
 def begin():
     return [0]
 
@@ -157,6 +190,32 @@ def lay(base):
 
 def read(at, most):
     return [3, at, most]
+
+
+def find(name):
+    name = list(name.encode()) if isinstance(name, str) else name
+    return [4, len(name)] + name
+
+
+def want(k):
+    return [5, k]
+
+
+def fill(k, value):
+    return [6, k, value]
+
+
+def about():
+    return [7]
+
+
+def padded(letters):
+    return list(letters.encode()) + [0] * (255 - len(letters))
+
+
+def told(place, library_name="lib", name="name", number=1, added=0):
+    """What want answers of such a word."""
+    return [len(name), place, number, added % ALL] + padded(library_name) + padded(name)
 
 
 def split(answered):
@@ -175,7 +234,13 @@ def ask(*calls):
     return found[1:]
 
 
-KEPT = file_of(segments=[code(), data(size=PAGE)], mend=[0x11, 0x21, 8, 0x51])
+KEPT = file_of(
+    segments=[code(), data(size=PAGE)],
+    libraries=["kept"],
+    mend=[0x11, 0x21, 8, 0x51],
+    bind=[0x11, 0x51, 0x40] + text("own") + [0x60, 7, 0x71, 64, 0x90],
+    tree=forest("there"),
+)
 
 
 class FileCase(unittest.TestCase):
@@ -184,14 +249,17 @@ class FileCase(unittest.TestCase):
 
     def refused(self, file):
         """The file is refused, and the image that was there stays as it was, where it was."""
-        looks = [read(0, 64), read(DATA, 64), read(2 * PAGE - 8, 64)]
-        found = ask(take(KEPT), lay(HOME + SHIFT), *looks, take(file), *looks, lay(HOME), *looks)
-        self.assertEqual(found[:2], [[0], [0]])
-        self.assertEqual(found[5], [-1])
-        self.assertEqual(found[6:9], found[2:5])
-        self.assertEqual(found[3][1 + 8:1 + 16], le(SHIFT, 8))
-        self.assertEqual(found[9], [0])
-        self.assertEqual(found[11], [64] + [0] * 64)
+        looks = [read(0, 64), read(2 * PAGE - 8, 64), find("there"), want(0), want(1), about(), read(DATA, 80)]
+        found = ask(take(KEPT), lay(HOME + SHIFT), fill(0, 5), *looks, take(file), *looks, lay(HOME), looks[-1])
+        size = len(looks)
+        before = found[3:3 + size]
+        self.assertEqual(found[:3], [[0]] * 3)
+        self.assertEqual(before[2:6], [
+            [0, 1], told(DATA + 64, "kept", "own", added=7), [-1], [2, HOME + SHIFT, 2 * PAGE, 0, 1, 1, 1]])
+        self.assertEqual(before[6], [80] + [0] * 8 + le(SHIFT, 8) + [0] * 48 + le(12, 8) + [0] * 8)
+        self.assertEqual(found[3 + size], [-1])
+        self.assertEqual(found[4 + size:4 + 2 * size], before)
+        self.assertEqual(found[4 + 2 * size:], [[0], [80] + [0] * 64 + le(12, 8) + [0] * 8])
 
     def mends(self, places, file, length=2 * PAGE):
         """The file is taken, and of its data, zeros all, just the words at these places are mended."""

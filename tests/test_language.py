@@ -147,7 +147,7 @@ class Language(unittest.TestCase):
 
     def test_handlers_take_errors_of_the_program(self):
         for file, node in nodes(ast.ExceptHandler):
-            self.assertIn(node.type.id, ("NoImage", "BadFile", "BadBase"), file)
+            self.assertIn(node.type.id, ("NoImage", "BadFile", "BadBase", "UnknownName", "NotWanted"), file)
 
 
 if __name__ == "__main__":

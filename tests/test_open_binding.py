@@ -257,7 +257,7 @@ class Apart(BindCase):
 
 
 class Signed(unittest.TestCase):
-    """No call of these tells what's to be added, so the numbers with sign are read by themselves."""
+    """The numbers with sign, read by themselves."""
 
     def value(self, row):
         return Cursor(row, 0).signed_sevens()

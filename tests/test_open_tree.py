@@ -2,42 +2,11 @@
 
 import unittest
 
-from building import ALL, HOME, PAGE, FileCase, bare, code, data, file_of, sevens, text
+from building import (
+    ALL, HOME, LEAF, NONE, PAGE, FileCase, bare, chain, code, data, file_of, forest, node, sevens, stands, text,
+)
 
 LENGTH = 3 * PAGE
-
-
-def stands(place, flags=None, more=0):
-    """What a node stands for, with how many bytes that has before it."""
-    said = (sevens(0) if flags is None else flags) + sevens(place) + [0] * more
-    return sevens(len(said)) + said
-
-
-def node(said, *below):
-    """A node; below it are pairs of letters and a place, which always has two bytes."""
-    made = list(said) + [len(below)]
-    for letters, place in below:
-        made += (letters if isinstance(letters, list) else text(letters)) + sevens(place, 2)
-    return made
-
-
-NONE = [0]
-LEAF = node(stands(1))
-
-
-def forest(*names, leaf=LEAF):
-    """A first node with a leaf for each name."""
-    at = 2 + sum(len(name) + 3 for name in names)
-    pairs = [(name, at + k * len(leaf)) for k, name in enumerate(names)]
-    return node(NONE, *pairs) + leaf * len(names)
-
-
-def chain(*letters, leaf=LEAF):
-    """A node below a node below a node, to a leaf."""
-    made = []
-    for each in letters:
-        made += node(NONE, (each, len(made) + 5 + len(each)))
-    return made + leaf
 
 
 class TreeCase(FileCase):

@@ -53,6 +53,13 @@ class Read(FileCase):
         found = ask(take(file_of(segments=rows)), read(4194304 - 399999, 400000))
         self.assertEqual(found, [[0], [399999] + [0] * 399999])
 
+    def test_whatever_the_rights_of_a_segment_are(self):
+        for rights in range(8):
+            rows = [code(rights=rights), data(rights=rights, source=PAGE, filled=1000)]
+            file = file_of(segments=rows, body=BODY)
+            found = ask(take(file), read(0, 32), read(DATA, 1001))
+            self.assertEqual(found, [[0], [32] + file[:32], [1001] + BODY + [0]])
+
     def test_a_read_changes_nothing(self):
         found = ask(take(FILE), read(0, 4 * PAGE), read(0, 0), read(0, 4 * PAGE))
         self.assertEqual(found[3], found[1])
